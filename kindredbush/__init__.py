@@ -1,0 +1,1 @@
+"""Kindredbush: bushes put together by a table of what fits where."""
