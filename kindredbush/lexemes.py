@@ -117,13 +117,13 @@ class Reader:
 
 
 def written(parts):
-    """The written text of a list of lexemes."""
+    """The written text of a list of lexemes, of which the last one is a }."""
     text = []
-    for number, part in enumerate(parts):
+    for part, after in zip(parts, parts[1:] + [""]):
         text.append(part)
         if part in ("{", "}", ";"):
             text.append("\n")
-        elif part != "(" and number + 1 < len(parts) and parts[number + 1] not in (")", ",", ";"):
+        elif part != "(" and after not in (")", ",", ";"):
             text.append(" ")
     return "".join(text)
 

@@ -15,6 +15,12 @@ class Lexemes(unittest.TestCase):
             ("word", "table", 0), ("sign", "(", 6), ("word", "a1", 7), ("sign", ",", 9), ("word", "b", 11),
             ("sign", ")", 12), ("sign", "{", 14), ("number", "12", 15), ("sign", ";", 17), ("sign", "}", 18)])
 
+    def test_each_letter_ends_a_number(self):
+        for letter in "abcdefghijklmnopqrstuvwxyz":
+            self.assertEqual(strings("12" + letter + "3"), ["12", letter + "3"])
+            self.assertEqual(strings("0" + letter), ["0", letter])
+            self.assertEqual(strings(letter + "0" + letter), [letter + "0" + letter])
+
     def test_nothing(self):
         for text in ["", " ", "\n", " \n \n"]:
             self.assertEqual(lexemes(text), [])
