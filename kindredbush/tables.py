@@ -11,12 +11,17 @@ class Table:
         path = wrong_table_part(stems, places, fits)
         if path is not None:
             raise BadFits(path)
-        told = {fit: True for fit in fits}
+        told = fits_in_order(stems, places, fits)
+        by_stem = {stem: [] for stem in stems}
+        by_place = {place: [] for place in places}
+        for stem, place in told:
+            by_stem[stem].append(place)
+            by_place[place].append(stem)
         self._stems = tuple(stems)
         self._places = tuple(places)
-        self._fits = tuple([(stem, place) for stem in stems for place in places if (stem, place) in told])
-        self._by_stem = {stem: tuple([place for place in places if (stem, place) in told]) for stem in stems}
-        self._by_place = {place: tuple([stem for stem in stems if (stem, place) in told]) for place in places}
+        self._fits = tuple(told)
+        self._by_stem = by_stem
+        self._by_place = by_place
 
     def stems(self):
         """The list of the stem colours."""
@@ -77,6 +82,14 @@ def wrong_fits_part(stems, places, fits):
             return (2, number)
         met[fit] = True
     return None
+
+
+def fits_in_order(stems, places, fits):
+    """The list of the fits by the lists of the colours."""
+    stem_numbers = {stem: number for number, stem in enumerate(stems)}
+    place_numbers = {place: number for number, place in enumerate(places)}
+    rows = sorted([(stem_numbers[stem], place_numbers[place]) for stem, place in fits])
+    return [(stems[row[0]], places[row[1]]) for row in rows]
 
 
 def turned(table):

@@ -204,5 +204,10 @@ class Rules(unittest.TestCase):
         names = [f"n{number}" for number in range(2000)]
         text = "table (" + ", ".join(names) + ") () {}"
         self.assertEqual(read_table(text), Table(names, [], []))
+        text = "table (" + ",".join(names[:1500]) + ") (" + ",".join(names[:1500]) + ") {" + "}"
+        self.assertEqual(len(read_table(text).places()), 1500)
+        fits = "".join(f"{one} {one};" for one in names[700::-1])
+        text = "table (" + ",".join(names[:701]) + ") (" + ",".join(names[:701]) + ") {" + fits + "}"
+        self.assertEqual(read_table(text).fits(), [(one, one) for one in names[:701]])
         raises(self, BadText, {"place": 7}, read_table, "table ((" + "(" * 19990)
         raises(self, BadText, {"place": 20000}, read_table, "table () () {" + " " * 19987)
