@@ -59,8 +59,7 @@ class Assembly:
         """The grove with the same joints at the same places, or None if there is a loop."""
         if self.loops():
             return None
-        bushes = [bush_at(self._bag, self._joint_at, ("root", number)) for number in range(len(self._roots))]
-        return Grove(self._bag, self._roots, bushes)
+        return grove_of(self._bag, self._roots, self._joint_at)
 
     def __eq__(self, other):
         return (isinstance(other, Assembly) and self._bag == other._bag
@@ -102,6 +101,11 @@ def loop_from(place_of, place):
         return ()
     # One came from each place to the one of its owner, but a loop goes the other way.
     return (place,) + tuple(trail[:0:-1])
+
+
+def grove_of(bag, roots, joint_at):
+    """The grove with these joints at the places, which are in no loop."""
+    return Grove(bag, roots, [bush_at(bag, joint_at, ("root", number)) for number in range(len(roots))])
 
 
 def bush_at(bag, joint_at, place):

@@ -1,7 +1,7 @@
 """Groves: bushes in which each joint of a bag stands once."""
 
 from kindredbush.bags import check_place, places_of, wrong_roots_part
-from kindredbush.errors import BadGrove
+from kindredbush.errors import BadGrove, UnlikeGroves
 from kindredbush.words import check_known, is_list
 
 
@@ -140,3 +140,9 @@ def wrong_top(bag, bush, path, colour, met):
     if len(bush) != 1 + len(bag.branches(name)):
         return path
     return None
+
+
+def check_alike(one, other):
+    """Raise UnlikeGroves if two groves differ in their bags or their roots."""
+    if one.bag() != other.bag() or one.roots() != other.roots():
+        raise UnlikeGroves()

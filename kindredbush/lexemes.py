@@ -86,7 +86,15 @@ class Reader:
 
     def take_name(self):
         """Take any word, and return it."""
-        if self._at == len(self._found) or self._found[self._at][0] != "word":
+        return self._take_sort("word")
+
+    def take_number(self):
+        """Take any number, and return it as an integer."""
+        return int(self._take_sort("number"))
+
+    def _take_sort(self, sort):
+        """Take any lexeme of a sort, and return it."""
+        if self._at == len(self._found) or self._found[self._at][0] != sort:
             raise BadText(self._place())
         self._at += 1
         return self._found[self._at - 1][1]

@@ -112,6 +112,8 @@ def faults_of_tree(tree):
         for name in names_in(node):
             if name in BARRED_NAMES or name in BARRED_WORDS or (name.startswith(BARRED_STARTS) and name not in DOUBLE):
                 yield line, f"L8, L12, L17 name: {name}"
+            if name == "_" and isinstance(getattr(node, "ctx", None), ast.Store):
+                continue
             if not re.fullmatch(r"_?[A-Za-z][A-Za-z0-9_]*|__init__|__eq__", name):
                 yield line, f"L12 name: {name}"
 

@@ -4,8 +4,10 @@ import copy
 
 from kindredbush.assemblies import Assembly
 from kindredbush.bags import Bag
+from kindredbush.errors import BadText
 from kindredbush.groves import Grove
-from kindredbush.ladders import Ladder
+from kindredbush.ladders import Ladder, table_of
+from kindredbush.lexemes import lexemes
 from kindredbush.tables import Table
 
 # The table T of S1.1.
@@ -22,6 +24,7 @@ OTHER_GROVE = Grove(BAG, ["x"], [("q", ("p", ("t",), ("r",)))])
 
 RING_FITS = [("a", "x"), ("a", "y"), ("b", "y"), ("b", "z"), ("c", "z"), ("c", "x")]
 RING_TABLE = Table(["a", "b", "c"], ["x", "y", "z"], RING_FITS)
+FORM_WORDS = ("table", "bag", "joint", "grove", "script", "hang", "stretch")
 DOMINO_TABLE = Table(["a", "b", "c"], ["p", "q", "w"],
                      [("a", "p"), ("a", "q"), ("a", "w"), ("b", "p"), ("b", "q"), ("c", "q"), ("c", "w")])
 
@@ -143,3 +146,47 @@ def some_ladder(chance, knots, stems, places):
     chance.shuffle(arrows)
     return Ladder(names, arrows, [(f"s{number}", chance.choice(names)) for number in range(stems)],
                   [(f"p{number}", chance.choice(names)) for number in range(places)])
+
+
+def place_by_states(words, begin, step, end):
+    """The first wrong place of words with blanks between, by a function from a state and a word to a state or None."""
+    state, place = begin, 0
+    for word in words:
+        state = step(state, word)
+        if state is None:
+            return place
+        place += len(word) + 1
+    return None if state == end else place
+
+
+def ways_off(words, sorts):
+    """Each beginning of some words, and all that differs from them by one of these or lacks one."""
+    tried = []
+    for at in range(len(words) + 1):
+        tried.append(words[:at])
+        tried.append(words[:at] + words[at + 1:])
+        for word in sorts:
+            tried.append(words[:at] + [word])
+            tried.append(words[:at] + [word] + words[at:])
+            tried.append(words[:at] + [word] + words[at + 1:])
+    return tried
+
+
+def check_cut_off(test, read, text):
+    """Each beginning of a text, in which no name is a word of a form, is wrong at its end or at a word cut off."""
+    words = [(lexeme, place) for sort, lexeme, place in lexemes(text) if lexeme in FORM_WORDS]
+    for end in range(len(text.rstrip("\n"))):
+        cut = [place for lexeme, place in words if place < end < place + len(lexeme)]
+        with test.subTest(text=text[:end]):
+            raises(test, BadText, {"place": cut[0] if cut else end}, read, text[:end])
+
+
+def some_bag(chance, ladder, joints, roots):
+    """A bag with so many joints over the table of a ladder, and so many roots if there are enough joints."""
+    table = table_of(ladder, [stem for stem, _ in ladder.stem_homes()], [place for place, _ in ladder.place_homes()])
+    many = [0] * joints
+    for _ in range(joints - roots):
+        many[chance.randrange(joints)] += 1
+    bag = Bag(table, [(f"j{n}", chance.choice(table.stems()), tuple(chance.choice(table.places()) for _ in range(k)))
+                      for n, k in enumerate(many)])
+    return bag, tuple(chance.choice(table.places()) for _ in range(joints - sum(many)))
