@@ -38,7 +38,7 @@ def way(f, g):
     """A fewest way from a grove to another one."""
     check_alike(f, g)
     bag, roots = f.bag(), f.roots()
-    check_good(bag.table())
+    # It is ladder_of that raises BadTable, with the bar of a bad table.
     ladder = trimmed(ladder_of(bag.table()))
     one, other = matched(ladder, f, g)
     return seen_script(ladder, bag, roots, one, flat_way(ladder, bag, roots, one, other))

@@ -23,22 +23,25 @@ def reached(f):
 
 def fewest_by_walks(f, g, most):
     """The least price, up to most, of a script from a grove to another one, or None."""
-    check_alike(f, g)
-    goal = key_of(g.bag(), Standing(g.rows()))
-    found = spread(f, most, goal, None)
-    if goal not in found:
-        return None
-    return found[goal][0]
+    coins, script = cheapest(f, g, most)
+    return coins
 
 
 def walk_by_walks(f, g, most):
     """A script of the least price, up to most, from a grove to another one, or None."""
+    coins, script = cheapest(f, g, most)
+    return script
+
+
+def cheapest(f, g, most):
+    """The pair of the least price, up to most, of a script to another grove, and such a script; or of None twice."""
     check_alike(f, g)
     goal = key_of(g.bag(), Standing(g.rows()))
     found = spread(f, most, goal, None)
     if goal not in found:
-        return None
-    return found[goal][2]
+        return (None, None)
+    coins, grove, script = found[goal]
+    return (coins, script)
 
 
 def by_coins(found):

@@ -185,7 +185,7 @@ class IsFlat(unittest.TestCase):
 
     def test_anything(self):
         self.assertIs(is_flat(LADDER, BAG, ["q"], FLAT_F[0]), False)
-        odd = [list(FLAT_F), FLAT_F + FLAT_F, (("x", ("y", ("z",))),), ((A,),), ((A, ()),), ((),),
+        odd = [list(FLAT_F), FLAT_F + FLAT_F, (("y", ("x", (A, ("x", ("y", ("z",)))))),), (("x", ("y", ("z",))),), ((A,),), ((A, ()),), ((),),
                ((A, ("x", ("y", ("z",))), ("z",)),), ((A, ("x", ("y",))),), ((A, ("x", ("y", ("z", ("z",))))),),
                ((A, ("x", ("y", ("x", ("z",))))),), ((A, (A, ("x", ("y", ("z",))))),), ((A, ("x", (A, ("z",)))),),
                (("y", ("x", ("z",))),), (((0, False), ("x", ("y", ("z",)))),), (((False, 0), ("x", ("y", ("z",)))),),

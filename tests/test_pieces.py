@@ -17,6 +17,15 @@ WIDE = Grove(WIDE_BAG, WIDE_ROOTS, WIDE_BUSHES)
 EMPTY = Grove(Bag(FREE, []), [], [])
 
 
+def chain_of(names):
+    """A grove of one bush, in which each joint but the last one has the next one at its only branch."""
+    bag = Bag(FREE, [(name, "k", ("l",)) for name in names[:-1]] + [(names[-1], "k", ())])
+    bush = (names[-1],)
+    for name in names[-2::-1]:
+        bush = (name, bush)
+    return Grove(bag, ["l"], [bush])
+
+
 def bushes_at(grove):
     """The bushes of a grove by their places."""
     return dict(spot for number, bush in enumerate(grove.bushes()) for spot in spots_of(("root", number), bush))
@@ -242,11 +251,7 @@ class Rules(unittest.TestCase):
     def test_great_groves(self):
         """30 joints in one chain, which are all moved."""
         names = [f"j{number}" for number in range(30)]
-        bag = Bag(FREE, [(name, "k", ("l",)) for name in names[:29]] + [("j29", "k", ())])
-        bush = ("j29",)
-        for name in names[28::-1]:
-            bush = (name, bush)
-        grove = Grove(bag, ["l"], [bush])
+        grove = chain_of(names)
         for number in range(1, 29):
             self.assertIs(is_deed(grove, ("stretch", ("root", 0), ("j0", 0), ("j0", 0), (f"j{number}", 0))), True)
             self.assertEqual(stretch_joints(grove, ("root", 0), (f"j{number}", 0)), names[:number + 1])

@@ -1,15 +1,13 @@
 import random
 import unittest
 
-from kindredbush.bags import Bag
 from kindredbush.deeds import all_deeds, canonical, deed_back, done
 from kindredbush.errors import BadDeed, BadText
-from kindredbush.groves import Grove
 from kindredbush.lexemes import lexemes
 from kindredbush.scripts import first_bad, price, read_script, script_back, script_text, steps, walked
 from tests.support import GROVE, ODD_VALUES, cases, check_cut_off, keeps_the_rules, place_by_states, raises, ways_off
 from tests.test_deeds import EMPTY, GROVES, P0, P1, Q0, ROOT, STUCK
-from tests.test_pieces import FREE
+from tests.test_pieces import chain_of
 
 HANG = ("hang", P0, P1)
 SWAP = ("stretch", ROOT, P0, P0, Q0)
@@ -193,12 +191,7 @@ class Rules(unittest.TestCase):
 
     def test_long_scripts(self):
         """60 deeds with 30 joints; a text of 20,000 characters."""
-        names = [f"j{number}" for number in range(30)]
-        bag = Bag(FREE, [(name, "k", ("l",)) for name in names[:29]] + [("j29", "k", ())])
-        bush = ("j29",)
-        for name in names[28::-1]:
-            bush = (name, bush)
-        grove = Grove(bag, ["l"], [bush])
+        grove = chain_of([f"j{number}" for number in range(30)])
         script = []
         for number in range(28):
             upper, lower = (f"j{number}", 0), (f"j{number + 1}", 0)

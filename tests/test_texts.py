@@ -5,7 +5,8 @@ from kindredbush.errors import BadFits, BadText
 from kindredbush.lexemes import lexemes
 from kindredbush.tables import Table
 from kindredbush.texts import read_table, table_text
-from tests.support import T, all_tables, keeps_the_rules, raises, some_table
+from tests.support import (T, all_tables, check_cut_off, keeps_the_rules, place_by_states, raises, some_table,
+                           ways_off)
 
 TEXT = "table (a, b) (x, y, z) {\na x;\na y;\nb y;\nb z;\n}\n"
 EMPTY_TEXT = "table () () {\n}\n"
@@ -24,16 +25,10 @@ STATES = {
 }
 
 
-def first_wrong_place(words):
-    """The first wrong place of the words with blanks between, or None if they are a table's text."""
-    state, place = "begin", 0
-    for word in words:
-        sort = "name" if word.isalnum() and word[0].isalpha() and word not in STATES[state] else word
-        if sort not in STATES[state]:
-            return place
-        state = STATES[state][sort]
-        place += len(word) + 1
-    return None if state == "end" else place
+def step(state, word):
+    """The state behind a word, or None."""
+    told = STATES[state]
+    return told.get(word, told.get("name") if word.isalnum() and word[0].isalpha() else None)
 
 
 class Written(unittest.TestCase):
@@ -86,16 +81,7 @@ class WrongPlaces(unittest.TestCase):
 
     def test_cut_off(self):
         for text in [TEXT, EMPTY_TEXT, "table(a)(b){a b;}"]:
-            body = text.rstrip("\n")
-            for end in range(len(body)):
-                cut = body[:end]
-                try:
-                    read_table(cut)
-                except BadText as error:
-                    begun = 5 > end > 0
-                    self.assertEqual(error.place, 0 if begun else end, cut)
-                else:
-                    self.fail(cut)
+            check_cut_off(self, read_table, text)
 
     def test_nothing(self):
         self.wrong(0, "")
@@ -161,17 +147,9 @@ class WrongPlaces(unittest.TestCase):
     def test_all_short_ways_off(self):
         """Each lexeme behind each beginning of a text, and the text without or with one more lexeme."""
         words = strings("table (a, b) (x) {a x; b x;}")
-        tried = []
-        for at in range(len(words) + 1):
-            tried.append(words[:at])
-            tried.append(words[:at] + words[at + 1:])
-            for word in SORTS:
-                tried.append(words[:at] + [word])
-                tried.append(words[:at] + [word] + words[at:])
-                tried.append(words[:at] + [word] + words[at + 1:])
-        for one in tried:
+        for one in ways_off(words, SORTS):
             text = "".join(word + " " for word in one)
-            place = first_wrong_place(one)
+            place = place_by_states(one, "begin", step, "end")
             with self.subTest(text=text):
                 if place is not None:
                     self.wrong(place, text)
