@@ -61,6 +61,7 @@ class Rings(unittest.TestCase):
         self.assertEqual(rings(F, G), [(root, y, x)])
         self.assertEqual(rings(G, F), [(root, x, y)])
         self.assertEqual(right_places(F, G), [])
+        self.assertEqual([F.is_apart(one, other) for one in (root, x, y) for other in (root, x, y)], [False] * 9)
 
     def test_domino(self):
         """S7.6."""
