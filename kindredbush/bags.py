@@ -135,3 +135,8 @@ def fits_there(bag, roots, name, place):
     """Whether the joint with a name fits a place."""
     stem = bag.stem(name)
     return bag.table().is_fit(stem, colour_of(bag, roots, place))
+
+
+def taken_out(joints, roots, number):
+    """The joints and the roots that are left if the joint with a number is taken out at the first root."""
+    return (joints[:number] + joints[number + 1:], list(joints[number][2]) + list(roots[1:]))

@@ -1,7 +1,7 @@
 """Whether joints can be put together, and how."""
 
 from kindredbush.assemblies import grove_of
-from kindredbush.bags import Bag, colour_of
+from kindredbush.bags import Bag, colour_of, taken_out
 from kindredbush.barred import unbuilt_paper
 from kindredbush.errors import Unbuilt
 from kindredbush.flows import flows
@@ -47,7 +47,7 @@ def first_good(ladder, bag, joints, roots):
     """
     for number, joint in enumerate(joints):
         if bag.table().is_fit(joint[1], roots[0]):
-            others = Bag(bag.table(), joints[:number] + joints[number + 1:])
-            if is_buildable(ladder, others, list(joint[2]) + roots[1:]):
+            others, further = taken_out(joints, roots, number)
+            if is_buildable(ladder, Bag(bag.table(), others), further):
                 return number
     return None

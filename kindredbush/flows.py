@@ -5,21 +5,29 @@ from kindredbush.bags import colour_of
 
 def flows(ladder, bag, roots):
     """The list of the flows, by the numbers of the arrows."""
-    excess = excess_at(ladder, bag, roots)
-    arrows = ladder.arrows()
-    return [sum([excess[knot] for knot in side_of(ladder, number)]) for number in range(len(arrows))]
+    return flows_between(sides_of(ladder), excess_at(ladder, bag.joints(), roots))
 
 
-def excess_at(ladder, bag, roots):
+def flows_between(sides, excess):
+    """The list of the flows of arrows that begin on these sides, with this excess at the knots."""
+    return [sum([excess[knot] for knot in side]) for side in sides]
+
+
+def excess_at(ladder, joints, roots):
     """A dict of the numbers of joints less places that are at home at the knots."""
     excess = {knot: 0 for knot in ladder.knots()}
     for colour in roots:
         excess[ladder.place_home(colour)] -= 1
-    for name, stem, branches in bag.joints():
+    for name, stem, branches in joints:
         excess[ladder.stem_home(stem)] += 1
         for colour in branches:
             excess[ladder.place_home(colour)] -= 1
     return excess
+
+
+def sides_of(ladder):
+    """The list of the sides on which the arrows begin, each as the list of its knots."""
+    return [side_of(ladder, number) for number in range(len(ladder.arrows()))]
 
 
 def side_of(ladder, number):

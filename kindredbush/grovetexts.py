@@ -50,14 +50,20 @@ def read_grove(bag, text):
     reader = Reader(text)
     reader.take("grove")
     roots = reader.take_names()
+    bushes = taken_bushes(reader)
+    reader.finish()
+    return Grove(bag, roots, bushes)
+
+
+def taken_bushes(reader):
+    """Take bushes in braces, each with a semicolon behind it, from a reader, and return the list of them."""
     reader.take("{")
     bushes = []
     while not reader.is_next("}"):
         bushes.append(taken_bush(reader))
         reader.take(";")
     reader.take("}")
-    reader.finish()
-    return Grove(bag, roots, bushes)
+    return bushes
 
 
 def taken_bush(reader):

@@ -84,6 +84,14 @@ class Reader:
             raise BadText(self._place())
         self._at += 1
 
+    def take_any(self, words):
+        """Take any one of some words, and return it."""
+        for word in words:
+            if self.is_next(word):
+                self.take(word)
+                return word
+        raise BadText(self._place())
+
     def take_name(self):
         """Take any word, and return it."""
         return self._take_sort("word")
@@ -109,6 +117,11 @@ class Reader:
             names.append(self.take_name())
         self.take(")")
         return names
+
+    def take_place(self):
+        """Take a name and a number, and return them as a place."""
+        owner = self.take_name()
+        return (owner, self.take_number())
 
     def finish(self):
         """Take the end of the text."""

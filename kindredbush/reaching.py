@@ -5,7 +5,7 @@ from kindredbush.flows import excess_at, flows
 
 def unbalanced_in(ladder, bag, roots):
     """The list of the pieces that are not balanced, each as the ascending tuple of its knots."""
-    excess = excess_at(ladder, bag, roots)
+    excess = excess_at(ladder, bag.joints(), roots)
     return [tuple(sorted(piece)) for piece in ladder.pieces() if sum([excess[knot] for knot in piece]) != 0]
 
 

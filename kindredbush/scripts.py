@@ -7,6 +7,9 @@ from kindredbush.pieces import is_deed
 from kindredbush.standings import coins_of
 from kindredbush.words import is_list
 
+# How many places follow the words of deeds.
+SIZES = {"hang": 2, "stretch": 4}
+
 
 def steps(grove, script):
     """The list of the groves that a script comes through, the first one included."""
@@ -71,14 +74,7 @@ def read_script(text):
 
 def taken_deed(reader):
     """Take a deed from a reader, and return it."""
-    if reader.is_next("hang"):
-        word, many = "hang", 2
-    else:
-        word, many = "stretch", 4
-    reader.take(word)
-    deed = (word,)
-    for _ in range(many):
-        owner = reader.take_name()
-        deed = deed + ((owner, reader.take_number()),)
+    word = reader.take_any(list(SIZES))
+    places = [reader.take_place() for _ in range(SIZES[word])]
     reader.take(";")
-    return deed
+    return (word,) + tuple(places)

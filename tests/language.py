@@ -1,8 +1,9 @@
 """Finds what in the package is outside of ../shared/LANGUAGE.md.
 
-The package is written in less than that document lets: what it does not need (generators, sets, bytes, try, with,
-match, decorators, defaults, stars, annotations ..) is told here as a fault, by the rule that would have to be
-looked up before it is used.
+The package is written in less than that document lets: what it does not need (generators, sets, bytes, with, match,
+decorators, stars, annotations ..) is told here as a fault, by the rule that would have to be looked up before it is
+used. Of `try` it has only handlers of own errors, of default values only those of parameters behind a bare star, and
+of the library only numbers' functions.
 """
 
 import ast
@@ -17,8 +18,9 @@ NODES = {
     "Call", "IfExp", "Attribute", "Subscript", "Slice", "Name", "Constant", "List", "Tuple", "Dict", "ListComp",
     "DictComp", "comprehension", "Lambda", "JoinedStr", "FormattedValue", "Load", "Store", "keyword",
     "And", "Or", "Not", "USub", "Add", "Sub", "Mult", "FloorDiv", "Mod",
-    "Eq", "NotEq", "Lt", "LtE", "Gt", "GtE", "In", "NotIn", "Is", "IsNot",
+    "Eq", "NotEq", "Lt", "LtE", "Gt", "GtE", "In", "NotIn", "Is", "IsNot", "Try", "ExceptHandler",
 }
+OF_MATH = {"gcd", "lcm", "factorial"}
 BUILTINS = {
     "len", "range", "enumerate", "zip", "min", "max", "sum", "abs", "sorted", "reversed", "int", "str", "bool",
     "list", "tuple", "dict", "isinstance", "ord", "repr", "any", "all", "divmod", "ValueError", "LookupError",
@@ -150,9 +152,11 @@ def faults_of_function(node, line):
     if node.end_lineno - node.lineno + 1 > 40:
         yield line, "L10 a function has at most 40 lines"
     told = node.args
-    if told.vararg or told.kwarg or told.kwonlyargs or told.posonlyargs or told.defaults or node.decorator_list:
+    if told.vararg or told.kwarg or told.posonlyargs or told.defaults or node.decorator_list:
         yield line, "L4 plain parameters alone are used here"
-    if node.returns or any(one.annotation for one in told.args):
+    if not all(is_plain(one) for one in told.kw_defaults) or (told.kwonlyargs and node.name.startswith("__")):
+        yield line, "L4 a bare star and plain default values"
+    if node.returns or any(one.annotation for one in told.args + told.kwonlyargs):
         yield line, "L21 an annotation"
     if any(isinstance(one, (ast.FunctionDef, ast.ClassDef)) for one in ast.walk(node) if one is not node):
         yield line, "nested functions are not used here"
@@ -170,7 +174,8 @@ def faults_of_call(node, line):
     if not isinstance(node.func, (ast.Name, ast.Attribute)):
         yield line, "L7 what is called"
     keywords = [keyword.arg for keyword in node.keywords]
-    if keywords and not (name == "sorted" and set(keywords) <= {"key", "reverse"}):
+    if (keywords and name in BUILTINS and not (name == "sorted" and set(keywords) <= {"key", "reverse"})) or (
+            keywords and (name is None or name in OF_MATH)):
         yield line, "L22 keywords"
     if name in ("any", "all", "min", "max", "sum", "sorted"):
         if any(isinstance(one, ast.GeneratorExp) for one in node.args):
@@ -188,6 +193,8 @@ def is_plain(node):
         return not isinstance(node.value, float)
     if isinstance(node, ast.Tuple):
         return all(is_plain(one) for one in node.elts)
+    if isinstance(node, ast.Dict):
+        return all(is_plain(one) and not isinstance(one, ast.Dict) for one in node.keys + node.values)
     return isinstance(node, ast.UnaryOp) and isinstance(node.op, ast.USub) and is_plain(node.operand)
 
 
@@ -218,6 +225,10 @@ def faults_of_imports(tree, trees):
         if not isinstance(node, ast.ImportFrom):
             continue
         parts = (node.module or "").split(".")
+        if parts == ["math"] and not node.level:
+            if any(alias.asname or alias.name not in OF_MATH for alias in node.names):
+                yield node.lineno, "L2 the library"
+            continue
         if node.level or len(parts) != 2 or parts[0] != PACKAGE or parts[1] + ".py" not in trees:
             yield node.lineno, "L2, L16 imports from files of the package"
             continue
@@ -246,16 +257,35 @@ def faults_of_scopes(tree):
         local = {node.arg for node in ast.walk(function) if isinstance(node, ast.arg)}
         local |= {node.id for node in ast.walk(function)
                   if isinstance(node, ast.Name) and isinstance(node.ctx, ast.Store)}
+        caught = {node.name for node in ast.walk(function) if isinstance(node, ast.ExceptHandler)}
         for name in sorted(local & tops) + sorted(local & set(dir(builtins))):
             yield function.lineno, f"L15 a local name: {name}"
         for node in ast.walk(function):
-            if isinstance(node, ast.Name) and node.id not in local | tops | BUILTINS:
+            if isinstance(node, ast.Name) and node.id not in local | tops | caught | BUILTINS:
                 yield node.lineno, f"L8 a name: {node.id}"
         calls = [node.func for node in ast.walk(function) if isinstance(node, ast.Call)]
         for node in ast.walk(function):
-            if isinstance(node, ast.Name) and node.id in BUILTINS and node not in calls and not in_isinstance(
+            if isinstance(node, ast.Name) and node.id in BUILTINS | OF_MATH and node not in calls and not in_isinstance(
                     function, node):
                 yield node.lineno, f"L22 a builtin that is not called: {node.id}"
+        yield from faults_of_handlers(function, local)
+
+
+def faults_of_handlers(function, local):
+    """L6, L19: own errors alone are caught, by name; what a handler names has no other meaning in its function."""
+    handlers = [node for node in ast.walk(function) if isinstance(node, ast.ExceptHandler)]
+    named = [node.name for node in handlers if node.name]
+    for node in handlers:
+        if not isinstance(node.type, ast.Name) or node.type.id in dir(builtins):
+            yield node.lineno, "L19 own errors alone are caught here"
+        if node.name and (named.count(node.name) > 1 or node.name in local or node.name in dir(builtins)):
+            yield node.lineno, f"L19 the name of an error: {node.name}"
+        for one in ast.walk(function):
+            if isinstance(one, ast.Name) and one.id == node.name and isinstance(one.ctx, ast.Store):
+                yield one.lineno, "L19 the name of an error is assigned"
+    for node in [one for one in ast.walk(function) if isinstance(one, ast.Try)]:
+        if node.finalbody or node.orelse:
+            yield node.lineno, "L6 finally and else are not used here"
 
 
 def in_isinstance(function, name):
@@ -336,11 +366,12 @@ def faults_of_circles(trees):
 
 def faults_of_calls(trees):
     """Methods: those of L25 and own ones; and each call of an own one passes what it takes."""
-    takes, methods = {}, {}
+    takes, methods, behind = {}, {}, {}
     for tree in trees.values():
         for node in tree.body:
             if isinstance(node, ast.FunctionDef):
                 takes.setdefault(node.name, set()).add(len(node.args.args))
+                behind.setdefault(node.name, set()).update(one.arg for one in node.args.kwonlyargs)
             if isinstance(node, ast.ClassDef):
                 own = [one for one in node.body if isinstance(one, ast.FunctionDef)]
                 made = [len(one.args.args) - 1 for one in own if one.name == "__init__"]
@@ -356,6 +387,7 @@ def faults_of_calls(trees):
                 elif node.func.attr in methods and len(node.args) not in methods[node.func.attr]:
                     found.append(f"{name}:{node.lineno}: L22 arguments: {node.func.attr}")
             elif isinstance(node.func, ast.Name) and node.func.id in takes:
-                if len(node.args) not in takes[node.func.id]:
+                keywords = {keyword.arg for keyword in node.keywords}
+                if len(node.args) not in takes[node.func.id] or not keywords <= behind.get(node.func.id, set()):
                     found.append(f"{name}:{node.lineno}: L22 arguments: {node.func.id}")
     return found

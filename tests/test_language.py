@@ -22,7 +22,13 @@ OUTSIDE = {
     "L18": "class A:\n    def b(self):\n        self.b = 1\n",
     "L28": "class A:\n    def __init__(self):\n        return None\n",
     "L5": "class A:\n    def __hash__(self):\n        return 1\n", "L6": "def a(x):\n    x + 1\n",
-    "L24 Set": "def a(x):\n    return {x}\n", "L19 Try": "def a(x):\n    try:\n        return x\n    except KeyError:\n        return 1\n",
+    "L24 Set": "def a(x):\n    return {x}\n",
+    "Python L19": "def a(x):\n    try:\n        return x\n    except KeyError:\n        return 1\n",
+    "else L6": "class A(ValueError):\n    def b(self):\n        return 1\n\n\ndef c(x):\n    try:\n        x.pop()\n"
+               "    except A:\n        return 1\n    else:\n        return 2\n",
+    "star L4": "def a(*, x=[]):\n    return x\n", "math L2": "from math import comb\n\n\ndef a(x):\n    return comb(x, 2)\n",
+    "twice L19": "class A(ValueError):\n    def b(self):\n        return 1\n\n\ndef c(x):\n    try:\n        x.pop()\n"
+                 "    except A as x:\n        return 1\n",
 }
 
 
