@@ -6,6 +6,8 @@ from kindredbush.assemblies import Assembly
 from kindredbush.bags import Bag
 from kindredbush.errors import BadText
 from kindredbush.groves import Grove
+from kindredbush.house import House
+from kindredbush.kinds import Kinds
 from kindredbush.ladders import Ladder, table_of
 from kindredbush.lexemes import lexemes
 from kindredbush.tables import Table
@@ -42,7 +44,7 @@ ODD_VALUES = [
     None, True, False, 0, 1, -1, 10 ** 39, "", " ", "A", "a b", "1a", "a_b", "aB", "abcdefghijklm", "\t", "\n",
     (), [], {}, ("nothere",), ["x"], {"x": "y"}, (("x",),), ("root",), ("root", True), ("root", False),
     ("root", 0, 0), ["root", 0], ("root", -1), ("root", 10 ** 39), ("p", None), (None, 0), ([], {}), ({}, []),
-    nested(40), T, LADDER, BAG, GROVE, Assembly(BAG, ["x"], GROVE.rows()),
+    nested(40), T, LADDER, BAG, GROVE, Assembly(BAG, ["x"], GROVE.rows()), Kinds([("x", None)]), House(GROVE),
 ]
 
 
@@ -93,7 +95,7 @@ def spoil(value):
 
 def plain(test, value):
     """A value is of plain kinds throughout."""
-    if isinstance(value, (Table, Ladder, Bag, Grove, Assembly)):
+    if isinstance(value, (Table, Ladder, Bag, Grove, Assembly, Kinds, House)):
         return
     test.assertIn(type(value), (int, str, bool, tuple, list, type(None)))
     if isinstance(value, (list, tuple)):

@@ -64,11 +64,40 @@ LISTED = {
     "rings": {"difference": "f g", "rings": "f g", "right_places": "f g"},
     "coins": {"due": "f g", "coins": "f g", "way": "f g", "judge_way": "f g script", "touched": "f deed",
               "change": "f g deed"},
+    "between": {"begins": "f g deed", "first_deeds": "f g", "is_between": "f h g", "all_between": "f g",
+                "nearest_grove": "f groves"},
+    "breaking": {"breaking": "table", "judge_breaking": "table value"},
+    "matrices": {"determinant": "rows", "fraction_determinant": "rows", "flat_matrix": "ladder bag roots"},
+    "counting": {"count_assemblies": "bag roots", "count_groves": "bag roots", "count_beginning": "bag roots names",
+                 "first_joints": "bag roots"},
+    "chances": {"chance_of_stem": "bag roots place stem", "chance_of_joint": "bag roots place name",
+                "mean": "bag roots one other", "means": "bag roots", "share": "bag roots"},
+    "numbering": {"grove_at": "bag roots number", "number_of": "grove", "next_grove": "grove",
+                  "groves_from": "bag roots * number many", "drawn_grove": "bag roots number"},
+    "kinds": {
+        "Kinds": {"__init__": "pairs", "pairs": "", "kinds": "", "elder": "kind", "elders": "kind",
+                  "is_under": "kind other", "common_kind": "kind other", "__eq__": "other"},
+        "kinds_table": "kinds", "kinds_ladder": "kinds", "kinds_of": "table",
+    },
+    "changes": {"is_change": "table value", "changed": "table change", "good_changes": "table", "fits_used": "grove",
+                "lives_in": "grove table", "grove_over": "grove table"},
+    "nearby": {"how_far": "table", "nearest_tables": "table", "far_paper": "table many",
+               "judge_far": "table many value"},
+    "goals": {"dues_after": "f g script", "wasted": "f g script", "barred_nails": "f g places"},
+    "acts": {"act_word": "stand act", "stand_after": "stand act", "good_acts": "stand"},
+    "house": {
+        "House": {"__init__": "grove", "grove": "", "goal": "", "nails": "", "stand": "", "kin": "", "do": "act",
+                  "undo": "", "redo": "", "done": "", "undone": "", "tried": "acts", "would": "acts", "paid": "",
+                  "due": "", "waste": "", "left": "", "way": "", "keep": "name", "marks": "", "marked": "name",
+                  "due_to": "name", "twin": "", "__eq__": "other"},
+    },
+    "console": {"Console": {"__init__": "house", "house": "", "say": "line"}},
 }
 
 
 def arguments_of(node):
-    return [one.arg for one in node.args.args]
+    behind = [one.arg for one in node.args.kwonlyargs]
+    return [one.arg for one in node.args.args] + ["*"] * bool(behind) + behind
 
 
 class Interface(unittest.TestCase):
