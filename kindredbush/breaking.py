@@ -50,9 +50,7 @@ def domino_parts(domino, names):
 
 def judge_breaking(table, value):
     """Whether a value, which may be anything, is a break of a table."""
-    if not is_tuple_of(value, 3) or not judge_bar(table, value[0]):
-        return False
-    if not isinstance(value[1], Grove) or not isinstance(value[2], Grove):
+    if not is_tuple_of(value, 3) or not judge_bar(table, value[0]) or not isinstance(value[1], Grove):
         return False
     names = value[1].bag().names()
     return len(names) == len(names_for(value[0])) and value == break_by(table, value[0], names)

@@ -2,7 +2,7 @@
 
 from kindredbush.bars import bar_of
 from kindredbush.errors import BadAct, BadText, NothingDone, UnknownName, UnlikeGroves
-from kindredbush.grovetexts import bush_text, taken_bush, taken_bushes
+from kindredbush.grovetexts import bush_text, taken_bush, taken_bushes, taken_joint
 from kindredbush.lexemes import Reader
 
 # The words with which lines begin, with what follows them.
@@ -81,9 +81,7 @@ def taken_joints(reader):
     while not reader.is_next(")"):
         if joints:
             reader.take(",")
-        name = reader.take_name()
-        stem = reader.take_name()
-        joints.append((name, stem, tuple(reader.take_names())))
+        joints.append(taken_joint(reader))
     reader.take(")")
     return tuple(joints)
 

@@ -36,13 +36,18 @@ def read_bag(table, text):
     joints = []
     while not reader.is_next("}"):
         reader.take("joint")
-        name = reader.take_name()
-        stem = reader.take_name()
-        joints.append((name, stem, tuple(reader.take_names())))
+        joints.append(taken_joint(reader))
         reader.take(";")
     reader.take("}")
     reader.finish()
     return Bag(table, joints)
+
+
+def taken_joint(reader):
+    """Take the name, the stem colour and the colours of the branches of a joint, and return the joint."""
+    name = reader.take_name()
+    stem = reader.take_name()
+    return (name, stem, tuple(reader.take_names()))
 
 
 def read_grove(bag, text):

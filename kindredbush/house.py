@@ -4,7 +4,6 @@ from kindredbush.acts import stand_after
 from kindredbush.bars import bar_of
 from kindredbush.coins import due, way
 from kindredbush.errors import BadAct, NothingDone, UnknownName
-from kindredbush.groves import check_alike
 from kindredbush.scripts import price
 from kindredbush.standings import is_form
 from kindredbush.words import check_known, is_word
@@ -143,9 +142,7 @@ class House:
 
     def due_to(self, name):
         """What is due from the present grove to the one under a name."""
-        mark = self.marked(name)
-        check_alike(self.grove(), mark)
-        return due(self.grove(), mark)
+        return due(self.grove(), self.marked(name))
 
     def twin(self):
         """An equal house that goes its own way."""

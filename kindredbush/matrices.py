@@ -8,7 +8,7 @@ from kindredbush.scales import Scale
 
 def determinant(rows):
     """The determinant of a list of lists of integers."""
-    left = [list(row) for row in rows]
+    left = list(rows)
     sign = 1
     before = 1
     while left:

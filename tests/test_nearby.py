@@ -154,6 +154,15 @@ class Papers(unittest.TestCase):
         self.assertIs(judge_far(FAR, 1, turned), plain_paper(FAR, 1, turned))
         self.assertIs(judge_far(FAR, 1, turned), False)
 
+    def test_words_of_both_sides(self):
+        """Stem colours that are also place colours, of which a bar has one alone."""
+        words = dict(zip("vwxyz", "bcdea"))
+        table = Table(FAR.stems(), [words[place] for place in FAR.places()], [(a, words[b]) for a, b in FAR.fits()])
+        for many in range(3):
+            paper = far_paper(table, many)
+            self.assertIs(plain_paper(table, many, paper), True)
+            self.assertIs(judge_far(table, many, paper), True)
+
     def test_spoilt_papers(self):
         bar, papers = far_paper(FAR, 2)
         good = far_paper(FAR, 1)[1]
