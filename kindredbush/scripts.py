@@ -75,6 +75,8 @@ def read_script(text):
 def taken_deed(reader):
     """Take a deed from a reader, and return it."""
     word = reader.take_any(list(SIZES))
-    places = [reader.take_place() for _ in range(SIZES[word])]
+    deed = (word,)
+    for _ in range(SIZES[word]):
+        deed = deed + (reader.take_place(),)
     reader.take(";")
-    return (word,) + tuple(places)
+    return deed
